@@ -5,7 +5,7 @@ from math import floor
 
 from planenumbers.plane import answers
 
-KIND, TIMES, DIVIDE, COMMON, APART, PRIME = range(6)
+KIND, TIMES, DIVIDE, COMMON, APART, PRIME, SIZE, FORM, ALIKE, POW, FEW, NORM = range(12)
 MOST = 4294967295
 KINDS = (0, 1)
 
@@ -84,6 +84,11 @@ def divides(kind, b, a):
 
 def rounded(z):
     return floor(z + Fraction(1, 2))
+
+
+def rest(kind, a, b):
+    back = product(kind, b, tuple(rounded(z) for z in parted(kind, a, b)))
+    return (a[0] - back[0], a[1] - back[1])
 
 
 def line_prime(n):
